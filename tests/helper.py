@@ -12,6 +12,7 @@ NUMBERS = {
 
 EVERY_N = [n for n in range(2, 61) if isqrt(n) ** 2 != n]
 WRONG_N = [0, 1, 4, 9, 16, 25, 36, 49, 61, 62, 64, 4294967294, 4294967295]
+WRONG_B = [0, 1, 61, 62, 64, 4294967294, 4294967295]
 GREATEST = 4294967295
 
 
@@ -94,3 +95,24 @@ def least_by_search(n):
     while isqrt(n * y * y + 1) ** 2 != n * y * y + 1:
         y += 1
     return [isqrt(n * y * y + 1), y]
+
+
+def minus_by_search(n):
+    """The least pair whose difference is -1, without any way; None if there is none.
+
+    Such a pair put together with itself is one of difference 1, so it lies below the least of those.
+    """
+    for y in range(1, least_by_search(n)[1]):
+        if isqrt(n * y * y - 1) ** 2 == n * y * y - 1:
+            return [isqrt(n * y * y - 1), y]
+    return None
+
+
+def longest_by_words(b):
+    counts = [(len(way_by_words(n)) - 1, -n) for n in EVERY_N if n <= b]
+    return [-max(counts)[1], max(counts)[0]]
+
+
+def greatest_by_search(b):
+    pairs = [(least_by_search(n)[0], -n) for n in EVERY_N if n <= b]
+    return [-max(pairs)[1], max(pairs)[0]]

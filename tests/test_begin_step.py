@@ -12,8 +12,10 @@ WAY_OF_58 = [
 AHEAD_OF_BEGIN = [
     "step", ("steps", 0), ("steps", 60), ("steps", 61), ("steps", GREATEST), "taken",
     ("fits", 1), ("fits", 0), ("fits", 1001), "all", "diffs", ("least", 2), ("least", 4), ("least", GREATEST),
-    ("long", 2), ("long", 0), "short", ("longest", 2), ("longest", 61), ("greatest", 2), ("greatest", 1),
-    ("minus", 2), ("minus", 3), ("minus", 0), "again", "done", "told",
+    ("long", 2), ("long", 0), ("long", 49), ("long", GREATEST), "short",
+    ("longest", 2), ("longest", 60), ("longest", 61), ("longest", GREATEST),
+    ("greatest", 2), ("greatest", 60), ("greatest", 1), ("greatest", GREATEST),
+    ("minus", 2), ("minus", 3), ("minus", 0), ("minus", 4), ("minus", GREATEST), "again", "done", "told",
 ]
 
 
@@ -60,7 +62,12 @@ class AheadOfBeginTest(unittest.TestCase):
 
     def test_each_call_is_refused_behind_a_refused_begin(self):
         for call in AHEAD_OF_BEGIN:
-            self.assertEqual(ask(("begin", 0), call), [[-22], [-11]], call)
+            for n in WRONG_N:
+                self.assertEqual(ask(("begin", n), call), [[-22], [-11]], (call, n))
+
+    def test_each_call_is_answered_otherwise_behind_a_begin(self):
+        for call in AHEAD_OF_BEGIN:
+            self.assertNotEqual(ask(call, ("begin", 2), call)[2], [-11], call)
 
     def test_all_of_them_one_behind_another_change_nothing(self):
         told = ask(*AHEAD_OF_BEGIN, ("begin", 2), "step")
